@@ -11,6 +11,7 @@ import (
 
 	"retroact/api"
 	"retroact/check"
+	"retroact/core"
 	"retroact/lex"
 	"retroact/syntax"
 	"retroact/types"
@@ -109,6 +110,9 @@ func compared(t *testing.T, seed int) outcome {
 		if problem := invalid(got.Prog); problem != "" && got.e == api.OK {
 			t.Fatalf("seed %d: %s\n%s", seed, s, problem)
 		}
+		if core.Right(got.Prog) != (got.e == api.OK) {
+			t.Fatalf("seed %d: %s\nis valid by layer 11: %v", seed, s, got.e != api.OK)
+		}
 		if p, e, at := check.Check(s); seed%2 == 1 && printed(outcome{api.Patch{Prog: p}, e, at}) != printed(got) {
 			t.Fatalf("seed %d: %s\nas a program: error %d at %d", seed, s, e, at)
 		}
@@ -171,6 +175,9 @@ func TestDamagedSources(t *testing.T) {
 			}
 			if problem := invalid(got.Prog); problem != "" && got.e == api.OK {
 				t.Fatalf("%s\n%s", s, problem)
+			}
+			if core.Right(got.Prog) != (got.e == api.OK) {
+				t.Fatalf("%s\nis valid by layer 11: %v", s, got.e != api.OK)
 			}
 			counts.add(got)
 		}
