@@ -36,8 +36,8 @@ func zero(x api.Expr, but string, kids int) {
 	must(kids < 0 || len(x.Kids) == kids, "Kids of ", x)
 }
 
-// monotone are the operators whose operands, and then the result, have fixed types, in letters: i is an int, b a bool, t a text.
-func monotone() map[int]string {
+// fixedRows are the operators whose operands and result have fixed types, which are given in letters, the result last: i is an int, b a bool, t a text.
+func fixedRows() map[int]string {
 	return map[int]string{
 		api.XUnit: "u", api.XAnd: "bbb", api.XOr: "bbb", api.XNot: "bb", api.XNeg: "ii", api.XAdd: "iii", api.XSub: "iii", api.XMul: "iii", api.XDiv: "iii", api.XMod: "iii",
 	}
@@ -52,7 +52,7 @@ func letters(s string) []api.Type {
 }
 
 func (s place) row(x api.Expr, want []api.Type) api.Type {
-	if form, ok := monotone()[x.Op]; ok {
+	if form, ok := fixedRows()[x.Op]; ok {
 		zero(x, "", len(form)-1)
 		l := letters(form)
 		s.all(x.Kids, l[:len(l)-1])
